@@ -1,0 +1,77 @@
+"""Which sets of people would rather be a group of their own.
+
+A set of people is a number: person i counts 2^i.
+"""
+
+REFUSAL = -22
+MOST_PEOPLE = 5
+LEAST_WORTH = -20
+MOST_WORTH = 20
+
+
+def people_are_as_told(n, worth):
+    """Whether n is a number of people, and worth tells what each is worth to each."""
+    if n < 1 or n > MOST_PEOPLE or len(worth) != n * n:
+        return False
+    # What one would be worth to oneself means nothing, but it is held to the same range.
+    for value in worth:
+        if value < LEAST_WORTH or value > MOST_WORTH:
+            return False
+    return True
+
+
+def groups_are_as_told(n, groups):
+    """Whether groups tells a number below n for each person."""
+    if len(groups) != n:
+        return False
+    for group in groups:
+        if group >= n:
+            return False
+    return True
+
+
+def is_in(person, people):
+    """Whether the person is in the set."""
+    return (people >> person) & 1 == 1
+
+
+def group_of(n, groups, person):
+    """The person's group, as a set."""
+    # Only who shares a number counts, so groups numbered otherwise need not be renumbered here.
+    people = 0
+    for other in range(n):
+        if groups[other] == groups[person]:
+            people = people + (1 << other)
+    return people
+
+
+def what_one_has(n, worth, person, people):
+    """What all others of the set are worth to the person, together."""
+    total = 0
+    for other in range(n):
+        if other != person and is_in(other, people):
+            total = total + worth[person * n + other]
+    return total
+
+
+def would_leave(n, w, worth, groups, people):
+    """Whether the set (not empty) would leave (w 0), or would leave weakly (w 1)."""
+    one_has_more = False
+    for person in range(n):
+        if is_in(person, people):
+            now = what_one_has(n, worth, person, group_of(n, groups, person))
+            then = what_one_has(n, worth, person, people)
+            if then < now or (w == 0 and then == now):
+                return False
+            if then > now:
+                one_has_more = True
+    return one_has_more
+
+
+def leavers(n, w, worth, groups):
+    """How many sets would leave (w 0), or would leave weakly (w 1); then these, rising."""
+    if not people_are_as_told(n, worth) or not groups_are_as_told(n, groups) or w > 1:
+        return [REFUSAL]
+    # The sets begin at 1: were the empty one to leave, as each of its nobody has more, no groups could hold.
+    found = [people for people in range(1, 1 << n) if would_leave(n, w, worth, groups, people)]
+    return [len(found)] + found
