@@ -1,4 +1,4 @@
-"""Which sets of people would rather be a group of their own.
+"""Which sets of people would rather be a group of their own, and how many ways to be in groups hold.
 
 A set of people is a number: person i counts 2^i.
 """
@@ -68,10 +68,43 @@ def would_leave(n, w, worth, groups, people):
     return one_has_more
 
 
+def all_sets(n):
+    """All sets of people but the empty one, rising."""
+    # Were the empty set to leave, as each of its nobody has more, no groups could hold.
+    return list(range(1, 1 << n))
+
+
+def all_ways(n):
+    """All ways to be in groups, in order: by the first person whose group's number differs."""
+    # Person 0's group is 0; each next person is in a group that is there already, or in the next new one.
+    ways = [[0]]
+    for person in range(1, n):
+        longer = []
+        for way in ways:
+            for group in range(max(way) + 2):
+                longer.append(way + [group])
+        ways = longer
+    return ways
+
+
+def groups_hold(n, w, worth, groups):
+    """Whether no set would leave (w 0), or none would leave even weakly (w 1)."""
+    for people in all_sets(n):
+        if would_leave(n, w, worth, groups, people):
+            return False
+    return True
+
+
 def leavers(n, w, worth, groups):
     """How many sets would leave (w 0), or would leave weakly (w 1); then these, rising."""
     if not people_are_as_told(n, worth) or not groups_are_as_told(n, groups) or w > 1:
         return [REFUSAL]
-    # The sets begin at 1: were the empty one to leave, as each of its nobody has more, no groups could hold.
-    found = [people for people in range(1, 1 << n) if would_leave(n, w, worth, groups, people)]
+    found = [people for people in all_sets(n) if would_leave(n, w, worth, groups, people)]
     return [len(found)] + found
+
+
+def core(n, w, worth):
+    """How many of all ways to be in groups hold (w 0), or hold weakly leaving (w 1)."""
+    if not people_are_as_told(n, worth) or w > 1:
+        return [REFUSAL]
+    return [len([way for way in all_ways(n) if groups_hold(n, w, worth, way)])]
