@@ -1,9 +1,10 @@
-"""Which sets of people would rather be a group of their own, and how many ways to be in groups hold.
+"""Which sets of people would rather be a group of their own, and which ways to be in groups hold.
 
 A set of people is a number: person i counts 2^i.
 """
 
 REFUSAL = -22
+NONE_SUCH = -33
 MOST_PEOPLE = 5
 LEAST_WORTH = -20
 MOST_WORTH = 20
@@ -54,6 +55,11 @@ def what_one_has(n, worth, person, people):
     return total
 
 
+def what_each_has(n, worth, groups):
+    """What each person has, person by person."""
+    return [what_one_has(n, worth, person, group_of(n, groups, person)) for person in range(n)]
+
+
 def would_leave(n, w, worth, groups, people):
     """Whether the set (not empty) would leave (w 0), or would leave weakly (w 1)."""
     one_has_more = False
@@ -95,6 +101,11 @@ def groups_hold(n, w, worth, groups):
     return True
 
 
+def ways_that_hold(n, w, worth):
+    """All ways to be in groups that hold (w 0), or hold weakly leaving (w 1), in order."""
+    return [way for way in all_ways(n) if groups_hold(n, w, worth, way)]
+
+
 def leavers(n, w, worth, groups):
     """How many sets would leave (w 0), or would leave weakly (w 1); then these, rising."""
     if not people_are_as_told(n, worth) or not groups_are_as_told(n, groups) or w > 1:
@@ -107,4 +118,15 @@ def core(n, w, worth):
     """How many of all ways to be in groups hold (w 0), or hold weakly leaving (w 1)."""
     if not people_are_as_told(n, worth) or w > 1:
         return [REFUSAL]
-    return [len([way for way in all_ways(n) if groups_hold(n, w, worth, way)])]
+    return [len(ways_that_hold(n, w, worth))]
+
+
+def nth(n, w, k, worth):
+    """Of the way that holds before which there are k: how many groups, each person's group, what each has."""
+    if not people_are_as_told(n, worth) or w > 1:
+        return [REFUSAL]
+    ways = ways_that_hold(n, w, worth)
+    if k >= len(ways):
+        return [NONE_SUCH]
+    # The groups of a way are numbered from 0 as they first come, so the greatest number tells how many.
+    return [max(ways[k]) + 1] + ways[k] + what_each_has(n, worth, ways[k])

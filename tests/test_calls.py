@@ -7,13 +7,14 @@ import subprocess
 import sys
 import unittest
 
-from groupscore.leaving import core, leavers
+from groupscore.leaving import core, leavers, nth
 
 ROOT = os.path.dirname(os.path.dirname(os.path.abspath(__file__)))
 
 PARAMETERS = (
     (leavers, ("n", "w", "worth", "groups")),
     (core, ("n", "w", "worth")),
+    (nth, ("n", "w", "k", "worth")),
 )
 
 # Lists are written as tuples here, so that each call is handed lists of its own.
@@ -36,6 +37,15 @@ CALLS = (
     (core, (2, 2, (0, 3, 0, 0)), [-22]),
     (core, (0, 0, ()), [-22]),
     (core, (5, 1, (-21,) * 25), [-22]),
+    (nth, (3, 0, 1, (0, 1, 0, 0, 0, 1, 1, 0, 0)), [2, 0, 0, 1, 1, 0, 0]),
+    (nth, (3, 0, 4, (0, 1, 0, 0, 0, 1, 1, 0, 0)), [-33]),
+    (nth, (3, 1, 0, (0, 1, 0, 0, 0, 1, 1, 0, 0)), [1, 0, 0, 0, 1, 1, 1]),
+    (nth, (3, 1, 0, (0, 1, -5, 1, 0, 1, -5, 1, 0)), [-33]),
+    (nth, (1, 0, 0, (-20,)), [1, 0, 0]),
+    (nth, (5, 0, 51, (0,) * 25), [5, 0, 1, 2, 3, 4, 0, 0, 0, 0, 0]),
+    (nth, (5, 0, 4294967295, (0,) * 25), [-33]),
+    (nth, (2, 2, 0, (0, 3, 0, 0)), [-22]),
+    (nth, (0, 0, 0, ()), [-22]),
 )
 
 
@@ -84,15 +94,18 @@ class Calls(unittest.TestCase):
         worth, groups = [0, 3, 4, 0], [0, 1]
         self.assertEqual(leavers(2, 0, worth, groups), [1, 3])
         self.assertEqual(core(2, 0, worth), [1])
+        self.assertEqual(nth(2, 0, 0, worth), [1, 0, 0, 3, 4])
         groups[1] = 0
         self.assertEqual(leavers(2, 0, worth, groups), [0])
         worth[1] = -3
         self.assertEqual(leavers(2, 0, worth, groups), [1, 1])
+        self.assertEqual(nth(2, 0, 0, worth), [2, 0, 1, 0, 0])
         worth[2] = 0
         worth[1] = 0
         self.assertEqual(core(2, 0, worth), [2])
         worth[0] = 21
         self.assertEqual(core(2, 0, worth), [-22])
+        self.assertEqual(nth(2, 0, 0, worth), [-22])
 
     def test_an_answer_that_is_changed_changes_no_other(self):
         for call, arguments, expected in CALLS:
@@ -110,6 +123,7 @@ class Calls(unittest.TestCase):
         script = ("import sys; before = set(sys.modules); import groupscore.leaving; "
                   "groupscore.leaving.leavers(2, 0, [0, 3, 4, 0], [0, 1]); "
                   "groupscore.leaving.core(2, 0, [0, 3, 4, 0]); "
+                  "groupscore.leaving.nth(2, 0, 0, [0, 3, 4, 0]); "
                   "print(sorted(set(sys.modules) - before))")
         run = subprocess.run([sys.executable, "-c", script], cwd=ROOT, capture_output=True, text=True, check=True)
         self.assertEqual(run.stdout, "['groupscore', 'groupscore.leaving']\n")
@@ -125,6 +139,7 @@ class Interface(unittest.TestCase):
     def test_arguments_by_name(self):
         self.assertEqual(leavers(n=2, w=0, worth=[0, 3, 4, 0], groups=[0, 1]), [1, 3])
         self.assertEqual(core(n=2, w=0, worth=[0, 3, 0, 0]), [2])
+        self.assertEqual(nth(n=2, w=0, k=1, worth=[0, 3, 0, 0]), [2, 0, 1, 0, 0])
 
 
 if __name__ == "__main__":
