@@ -31,6 +31,11 @@ def groups_are_as_told(n, groups):
     return True
 
 
+def is_set_as_told(n, people):
+    """Whether the number is a set of people, and not the empty one."""
+    return people > 0 and people < (1 << n)
+
+
 def is_in(person, people):
     """Whether the person is in the set."""
     return (people >> person) & 1 == 1
@@ -72,6 +77,30 @@ def would_leave(n, w, worth, groups, people):
             if then > now:
                 one_has_more = True
     return one_has_more
+
+
+def how_it_would_leave(n, worth, groups, people):
+    """2 if the set (not empty) would leave, 1 if only weakly, else 0."""
+    if would_leave(n, 0, worth, groups, people):
+        return 2
+    if would_leave(n, 1, worth, groups, people):
+        return 1
+    return 0
+
+
+def numbered_as_they_come(groups):
+    """The same groups, numbered as they first come."""
+    numbers = {}
+    for group in groups:
+        if group not in numbers:
+            numbers[group] = len(numbers)
+    return [numbers[group] for group in groups]
+
+
+def left_by(n, groups, people):
+    """The groups once the set is one of its own and all others stay as they were, numbered as they first come."""
+    # All groups handed over have numbers below n, so n is free for the set.
+    return numbered_as_they_come([n if is_in(person, people) else groups[person] for person in range(n)])
 
 
 def all_sets(n):
@@ -130,3 +159,12 @@ def nth(n, w, k, worth):
         return [NONE_SUCH]
     # The groups of a way are numbered from 0 as they first come, so the greatest number tells how many.
     return [max(ways[k]) + 1] + ways[k] + what_each_has(n, worth, ways[k])
+
+
+def leave(n, s, worth, groups):
+    """2 if the set would leave, 1 if only weakly, else 0; then, left by it, each person's group, what each has."""
+    # The set is asked last: only an n that is as told may tell how many sets there are.
+    if not people_are_as_told(n, worth) or not groups_are_as_told(n, groups) or not is_set_as_told(n, s):
+        return [REFUSAL]
+    left = left_by(n, groups, s)
+    return [how_it_would_leave(n, worth, groups, s)] + left + what_each_has(n, worth, left)

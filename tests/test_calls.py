@@ -7,7 +7,7 @@ import subprocess
 import sys
 import unittest
 
-from groupscore.leaving import core, leavers, nth
+from groupscore.leaving import core, leave, leavers, nth
 
 ROOT = os.path.dirname(os.path.dirname(os.path.abspath(__file__)))
 
@@ -15,6 +15,7 @@ PARAMETERS = (
     (leavers, ("n", "w", "worth", "groups")),
     (core, ("n", "w", "worth")),
     (nth, ("n", "w", "k", "worth")),
+    (leave, ("n", "s", "worth", "groups")),
 )
 
 # Lists are written as tuples here, so that each call is handed lists of its own.
@@ -46,6 +47,15 @@ CALLS = (
     (nth, (5, 0, 4294967295, (0,) * 25), [-33]),
     (nth, (2, 2, 0, (0, 3, 0, 0)), [-22]),
     (nth, (0, 0, 0, ()), [-22]),
+    (leave, (3, 6, (0, 2, 1, 1, 0, 2, 2, 1, 0), (2, 2, 0)), [2, 0, 1, 1, 0, 2, 1]),
+    (leave, (3, 6, (0, 1, 0, 0, 0, 1, 1, 0, 0), (1, 1, 2)), [1, 0, 1, 1, 0, 1, 0]),
+    (leave, (2, 3, (0, -1, -2, 0), (1, 0)), [0, 0, 0, -1, -2]),
+    (leave, (1, 1, (20,), (0,)), [0, 0, 0]),
+    (leave, (5, 21, (1,) * 25, (4, 4, 3, 3, 2)), [2, 0, 1, 0, 2, 0, 2, 0, 2, 0, 2]),
+    (leave, (2, 0, (0, 3, 4, 0), (0, 1)), [-22]),
+    (leave, (2, 4, (0, 3, 4, 0), (0, 1)), [-22]),
+    (leave, (2, 3, (0, 3, 4, 0), (0, 2)), [-22]),
+    (leave, (0, 1, (), ()), [-22]),
 )
 
 
@@ -93,12 +103,15 @@ class Calls(unittest.TestCase):
     def test_the_same_list_with_other_numbers(self):
         worth, groups = [0, 3, 4, 0], [0, 1]
         self.assertEqual(leavers(2, 0, worth, groups), [1, 3])
+        self.assertEqual(leave(2, 3, worth, groups), [2, 0, 0, 3, 4])
         self.assertEqual(core(2, 0, worth), [1])
         self.assertEqual(nth(2, 0, 0, worth), [1, 0, 0, 3, 4])
         groups[1] = 0
         self.assertEqual(leavers(2, 0, worth, groups), [0])
+        self.assertEqual(leave(2, 3, worth, groups), [0, 0, 0, 3, 4])
         worth[1] = -3
         self.assertEqual(leavers(2, 0, worth, groups), [1, 1])
+        self.assertEqual(leave(2, 3, worth, groups), [0, 0, 0, -3, 4])
         self.assertEqual(nth(2, 0, 0, worth), [2, 0, 1, 0, 0])
         worth[2] = 0
         worth[1] = 0
@@ -106,6 +119,7 @@ class Calls(unittest.TestCase):
         worth[0] = 21
         self.assertEqual(core(2, 0, worth), [-22])
         self.assertEqual(nth(2, 0, 0, worth), [-22])
+        self.assertEqual(leave(2, 3, worth, groups), [-22])
 
     def test_an_answer_that_is_changed_changes_no_other(self):
         for call, arguments, expected in CALLS:
@@ -124,6 +138,7 @@ class Calls(unittest.TestCase):
                   "groupscore.leaving.leavers(2, 0, [0, 3, 4, 0], [0, 1]); "
                   "groupscore.leaving.core(2, 0, [0, 3, 4, 0]); "
                   "groupscore.leaving.nth(2, 0, 0, [0, 3, 4, 0]); "
+                  "groupscore.leaving.leave(2, 3, [0, 3, 4, 0], [0, 1]); "
                   "print(sorted(set(sys.modules) - before))")
         run = subprocess.run([sys.executable, "-c", script], cwd=ROOT, capture_output=True, text=True, check=True)
         self.assertEqual(run.stdout, "['groupscore', 'groupscore.leaving']\n")
@@ -140,6 +155,7 @@ class Interface(unittest.TestCase):
         self.assertEqual(leavers(n=2, w=0, worth=[0, 3, 4, 0], groups=[0, 1]), [1, 3])
         self.assertEqual(core(n=2, w=0, worth=[0, 3, 0, 0]), [2])
         self.assertEqual(nth(n=2, w=0, k=1, worth=[0, 3, 0, 0]), [2, 0, 1, 0, 0])
+        self.assertEqual(leave(n=2, s=3, worth=[0, 3, 0, 0], groups=[1, 0]), [1, 0, 0, 3, 0])
 
 
 if __name__ == "__main__":
