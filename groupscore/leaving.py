@@ -109,6 +109,29 @@ def all_sets(n):
     return list(range(1, 1 << n))
 
 
+def lesser_sets_within(people):
+    """All sets within the set but the empty one and the set itself, rising."""
+    # Whatever lies within a set and lacks somebody of it is a lesser number too.
+    return [lesser for lesser in range(1, people) if lesser & people == lesser]
+
+
+def each_would_have_more(n, worth, people, whole):
+    """Whether each of the set (not empty) would have more with just these than with the whole set around it."""
+    for person in range(n):
+        if is_in(person, people):
+            if what_one_has(n, worth, person, people) <= what_one_has(n, worth, person, whole):
+                return False
+    return True
+
+
+def is_firm(n, worth, people):
+    """Whether of no lesser set within the set each would have more with just these."""
+    for lesser in lesser_sets_within(people):
+        if each_would_have_more(n, worth, lesser, people):
+            return False
+    return True
+
+
 def all_ways(n):
     """All ways to be in groups, in order: by the first person whose group's number differs."""
     # Person 0's group is 0; each next person is in a group that is there already, or in the next new one.
@@ -168,3 +191,11 @@ def leave(n, s, worth, groups):
         return [REFUSAL]
     left = left_by(n, groups, s)
     return [how_it_would_leave(n, worth, groups, s)] + left + what_each_has(n, worth, left)
+
+
+def firm(n, worth):
+    """How many sets are firm; then these, rising."""
+    if not people_are_as_told(n, worth):
+        return [REFUSAL]
+    found = [people for people in all_sets(n) if is_firm(n, worth, people)]
+    return [len(found)] + found

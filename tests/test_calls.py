@@ -7,7 +7,7 @@ import subprocess
 import sys
 import unittest
 
-from groupscore.leaving import core, leave, leavers, nth
+from groupscore.leaving import core, firm, leave, leavers, nth
 
 ROOT = os.path.dirname(os.path.dirname(os.path.abspath(__file__)))
 
@@ -16,6 +16,7 @@ PARAMETERS = (
     (core, ("n", "w", "worth")),
     (nth, ("n", "w", "k", "worth")),
     (leave, ("n", "s", "worth", "groups")),
+    (firm, ("n", "worth")),
 )
 
 # Lists are written as tuples here, so that each call is handed lists of its own.
@@ -56,6 +57,13 @@ CALLS = (
     (leave, (2, 4, (0, 3, 4, 0), (0, 1)), [-22]),
     (leave, (2, 3, (0, 3, 4, 0), (0, 2)), [-22]),
     (leave, (0, 1, (), ()), [-22]),
+    (firm, (3, (0, 2, -1, -1, 0, 2, 2, -1, 0)), [4, 1, 2, 4, 7]),
+    (firm, (3, (0, 5, -1, 5, 0, -1, 3, 3, 0)), [4, 1, 2, 3, 4]),
+    (firm, (1, (-20,)), [1, 1]),
+    (firm, (5, (0,) * 25), [31] + list(range(1, 32))),
+    (firm, (5, (-20,) * 25), [5, 1, 2, 4, 8, 16]),
+    (firm, (2, (0, 21, 0, 0)), [-22]),
+    (firm, (0, ()), [-22]),
 )
 
 
@@ -106,6 +114,7 @@ class Calls(unittest.TestCase):
         self.assertEqual(leave(2, 3, worth, groups), [2, 0, 0, 3, 4])
         self.assertEqual(core(2, 0, worth), [1])
         self.assertEqual(nth(2, 0, 0, worth), [1, 0, 0, 3, 4])
+        self.assertEqual(firm(2, worth), [3, 1, 2, 3])
         groups[1] = 0
         self.assertEqual(leavers(2, 0, worth, groups), [0])
         self.assertEqual(leave(2, 3, worth, groups), [0, 0, 0, 3, 4])
@@ -113,6 +122,7 @@ class Calls(unittest.TestCase):
         self.assertEqual(leavers(2, 0, worth, groups), [1, 1])
         self.assertEqual(leave(2, 3, worth, groups), [0, 0, 0, -3, 4])
         self.assertEqual(nth(2, 0, 0, worth), [2, 0, 1, 0, 0])
+        self.assertEqual(firm(2, worth), [2, 1, 2])
         worth[2] = 0
         worth[1] = 0
         self.assertEqual(core(2, 0, worth), [2])
@@ -120,6 +130,7 @@ class Calls(unittest.TestCase):
         self.assertEqual(core(2, 0, worth), [-22])
         self.assertEqual(nth(2, 0, 0, worth), [-22])
         self.assertEqual(leave(2, 3, worth, groups), [-22])
+        self.assertEqual(firm(2, worth), [-22])
 
     def test_an_answer_that_is_changed_changes_no_other(self):
         for call, arguments, expected in CALLS:
@@ -139,6 +150,7 @@ class Calls(unittest.TestCase):
                   "groupscore.leaving.core(2, 0, [0, 3, 4, 0]); "
                   "groupscore.leaving.nth(2, 0, 0, [0, 3, 4, 0]); "
                   "groupscore.leaving.leave(2, 3, [0, 3, 4, 0], [0, 1]); "
+                  "groupscore.leaving.firm(2, [0, 3, 4, 0]); "
                   "print(sorted(set(sys.modules) - before))")
         run = subprocess.run([sys.executable, "-c", script], cwd=ROOT, capture_output=True, text=True, check=True)
         self.assertEqual(run.stdout, "['groupscore', 'groupscore.leaving']\n")
@@ -156,6 +168,7 @@ class Interface(unittest.TestCase):
         self.assertEqual(core(n=2, w=0, worth=[0, 3, 0, 0]), [2])
         self.assertEqual(nth(n=2, w=0, k=1, worth=[0, 3, 0, 0]), [2, 0, 1, 0, 0])
         self.assertEqual(leave(n=2, s=3, worth=[0, 3, 0, 0], groups=[1, 0]), [1, 0, 0, 3, 0])
+        self.assertEqual(firm(n=2, worth=[0, 3, -1, 0]), [2, 1, 2])
 
 
 if __name__ == "__main__":
