@@ -1,4 +1,4 @@
-"""Which sets of people would rather be a group of their own, and which ways to be in groups hold.
+"""Which sets of people would rather be a group of their own, and which ways to be in groups hold or are perfect.
 
 A set of people is a number: person i counts 2^i.
 """
@@ -63,6 +63,16 @@ def what_one_has(n, worth, person, people):
 def what_each_has(n, worth, groups):
     """What each person has, person by person."""
     return [what_one_has(n, worth, person, group_of(n, groups, person)) for person in range(n)]
+
+
+def what_those_liked_come_to(n, worth, person):
+    """What all those come to, together, who are worth more than 0 to the person."""
+    total = 0
+    for other in range(n):
+        # Oneself is no other, even where one would be worth more than 0 to oneself.
+        if other != person and worth[person * n + other] > 0:
+            total = total + worth[person * n + other]
+    return total
 
 
 def would_leave(n, w, worth, groups, people):
@@ -145,6 +155,12 @@ def all_ways(n):
     return ways
 
 
+def how_many_groups(way):
+    """How many groups the way has."""
+    # Its groups are numbered from 0 as they first come, so the greatest number tells.
+    return max(way) + 1
+
+
 def groups_hold(n, w, worth, groups):
     """Whether no set would leave (w 0), or none would leave even weakly (w 1)."""
     for people in all_sets(n):
@@ -156,6 +172,12 @@ def groups_hold(n, w, worth, groups):
 def ways_that_hold(n, w, worth):
     """All ways to be in groups that hold (w 0), or hold weakly leaving (w 1), in order."""
     return [way for way in all_ways(n) if groups_hold(n, w, worth, way)]
+
+
+def groups_are_perfect(n, worth, groups):
+    """Whether each has just all those who are worth more than 0 to them, with nobody else but who is worth 0."""
+    # Nothing is more than those liked come to: it's as much only with all of them and nobody who is worth less than 0.
+    return what_each_has(n, worth, groups) == [what_those_liked_come_to(n, worth, person) for person in range(n)]
 
 
 def leavers(n, w, worth, groups):
@@ -180,8 +202,7 @@ def nth(n, w, k, worth):
     ways = ways_that_hold(n, w, worth)
     if k >= len(ways):
         return [NONE_SUCH]
-    # The groups of a way are numbered from 0 as they first come, so the greatest number tells how many.
-    return [max(ways[k]) + 1] + ways[k] + what_each_has(n, worth, ways[k])
+    return [how_many_groups(ways[k])] + ways[k] + what_each_has(n, worth, ways[k])
 
 
 def leave(n, s, worth, groups):
@@ -199,3 +220,13 @@ def firm(n, worth):
         return [REFUSAL]
     found = [people for people in all_sets(n) if is_firm(n, worth, people)]
     return [len(found)] + found
+
+
+def perfect(n, worth):
+    """How many groups the first perfect way to be in groups has; then each person's group."""
+    if not people_are_as_told(n, worth):
+        return [REFUSAL]
+    for way in all_ways(n):
+        if groups_are_perfect(n, worth, way):
+            return [how_many_groups(way)] + way
+    return [NONE_SUCH]

@@ -1,13 +1,14 @@
 """Every call: what is handed in stays as it was, nothing is kept, nothing is printed or imported."""
 
 import contextlib
+import inspect
 import io
 import os
 import subprocess
 import sys
 import unittest
 
-from groupscore.leaving import core, firm, leave, leavers, nth
+from groupscore.leaving import core, firm, leave, leavers, nth, perfect
 
 ROOT = os.path.dirname(os.path.dirname(os.path.abspath(__file__)))
 
@@ -17,6 +18,7 @@ PARAMETERS = (
     (nth, ("n", "w", "k", "worth")),
     (leave, ("n", "s", "worth", "groups")),
     (firm, ("n", "worth")),
+    (perfect, ("n", "worth")),
 )
 
 # Lists are written as tuples here, so that each call is handed lists of its own.
@@ -64,6 +66,14 @@ CALLS = (
     (firm, (5, (-20,) * 25), [5, 1, 2, 4, 8, 16]),
     (firm, (2, (0, 21, 0, 0)), [-22]),
     (firm, (0, ()), [-22]),
+    (perfect, (3, (0, 2, 1, 1, 0, 2, 2, 1, 0)), [1, 0, 0, 0]),
+    (perfect, (3, (0, -1, 0, 0, 0, 2, 0, 0, 0)), [2, 0, 1, 1]),
+    (perfect, (3, (0, 1, -5, 1, 0, 1, -5, 1, 0)), [-33]),
+    (perfect, (1, (20,)), [1, 0]),
+    (perfect, (5, (0,) * 25), [1, 0, 0, 0, 0, 0]),
+    (perfect, (5, (-20,) * 25), [5, 0, 1, 2, 3, 4]),
+    (perfect, (2, (0, 1, -21, 0)), [-22]),
+    (perfect, (0, ()), [-22]),
 )
 
 
@@ -115,6 +125,7 @@ class Calls(unittest.TestCase):
         self.assertEqual(core(2, 0, worth), [1])
         self.assertEqual(nth(2, 0, 0, worth), [1, 0, 0, 3, 4])
         self.assertEqual(firm(2, worth), [3, 1, 2, 3])
+        self.assertEqual(perfect(2, worth), [1, 0, 0])
         groups[1] = 0
         self.assertEqual(leavers(2, 0, worth, groups), [0])
         self.assertEqual(leave(2, 3, worth, groups), [0, 0, 0, 3, 4])
@@ -123,7 +134,9 @@ class Calls(unittest.TestCase):
         self.assertEqual(leave(2, 3, worth, groups), [0, 0, 0, -3, 4])
         self.assertEqual(nth(2, 0, 0, worth), [2, 0, 1, 0, 0])
         self.assertEqual(firm(2, worth), [2, 1, 2])
+        self.assertEqual(perfect(2, worth), [-33])
         worth[2] = 0
+        self.assertEqual(perfect(2, worth), [2, 0, 1])
         worth[1] = 0
         self.assertEqual(core(2, 0, worth), [2])
         worth[0] = 21
@@ -131,6 +144,7 @@ class Calls(unittest.TestCase):
         self.assertEqual(nth(2, 0, 0, worth), [-22])
         self.assertEqual(leave(2, 3, worth, groups), [-22])
         self.assertEqual(firm(2, worth), [-22])
+        self.assertEqual(perfect(2, worth), [-22])
 
     def test_an_answer_that_is_changed_changes_no_other(self):
         for call, arguments, expected in CALLS:
@@ -151,6 +165,7 @@ class Calls(unittest.TestCase):
                   "groupscore.leaving.nth(2, 0, 0, [0, 3, 4, 0]); "
                   "groupscore.leaving.leave(2, 3, [0, 3, 4, 0], [0, 1]); "
                   "groupscore.leaving.firm(2, [0, 3, 4, 0]); "
+                  "groupscore.leaving.perfect(2, [0, 3, 4, 0]); "
                   "print(sorted(set(sys.modules) - before))")
         run = subprocess.run([sys.executable, "-c", script], cwd=ROOT, capture_output=True, text=True, check=True)
         self.assertEqual(run.stdout, "['groupscore', 'groupscore.leaving']\n")
@@ -159,9 +174,18 @@ class Calls(unittest.TestCase):
 class Interface(unittest.TestCase):
     def test_names_of_the_arguments(self):
         for call, names in PARAMETERS:
-            code = call.__code__
-            self.assertEqual(code.co_varnames[:code.co_argcount], names)
-            self.assertIsNone(call.__defaults__)
+            parameters = inspect.signature(call).parameters.values()
+            self.assertEqual(tuple(parameter.name for parameter in parameters), names)
+            for parameter in parameters:
+                self.assertIs(parameter.kind, inspect.Parameter.POSITIONAL_OR_KEYWORD)
+                self.assertIs(parameter.default, inspect.Parameter.empty)
+
+    def test_each_call_is_one_def_by_itself(self):
+        for call, names in PARAMETERS:
+            self.assertTrue(inspect.isfunction(call))
+            self.assertEqual(call.__module__, "groupscore.leaving")
+        self.assertEqual([call.__name__ for call, names in PARAMETERS],
+                         ["leavers", "core", "nth", "leave", "firm", "perfect"])
 
     def test_arguments_by_name(self):
         self.assertEqual(leavers(n=2, w=0, worth=[0, 3, 4, 0], groups=[0, 1]), [1, 3])
@@ -169,6 +193,7 @@ class Interface(unittest.TestCase):
         self.assertEqual(nth(n=2, w=0, k=1, worth=[0, 3, 0, 0]), [2, 0, 1, 0, 0])
         self.assertEqual(leave(n=2, s=3, worth=[0, 3, 0, 0], groups=[1, 0]), [1, 0, 0, 3, 0])
         self.assertEqual(firm(n=2, worth=[0, 3, -1, 0]), [2, 1, 2])
+        self.assertEqual(perfect(n=2, worth=[0, 3, 0, 0]), [1, 0, 0])
 
 
 if __name__ == "__main__":
